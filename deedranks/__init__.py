@@ -1,0 +1,1 @@
+"""Deedranks: land records with joint claims by rank."""

@@ -1,0 +1,287 @@
+"""The form of the code, and the interface: which names stand in which files, with which parameters."""
+
+import ast
+import builtins
+import inspect
+import os
+import tokenize
+import unittest
+from importlib import import_module
+
+FOLDER = os.path.join(os.path.dirname(os.path.dirname(os.path.abspath(__file__))), "deedranks")
+MODULES = sorted(name[:-3] for name in os.listdir(FOLDER) if name.endswith(".py"))
+BUILTINS = set(dir(builtins))
+ALLOWED = set("""len range enumerate zip min max sum abs sorted reversed int str bool bytes list tuple dict set isinstance
+    ord repr any all divmod iter next map Exception ValueError TypeError KeyError IndexError LookupError
+    ZeroDivisionError ArithmeticError OverflowError RuntimeError NotImplementedError NotImplemented property
+    staticmethod classmethod super""".split())
+BARRED = set("""register mro elements open input law version_info with_traceback add_note attrgetter breakpoint builtins
+    compile copyright credits delattr dir eval exec exit gc getattr globals hasattr help id importlib license locals
+    methodcaller os quit setattr type vars sys typing enum Enum namedtuple dataclass abstractmethod""".split())
+METHODS = set("""append clear copy count endswith extend find get index insert isalnum isalpha isdigit islower isspace
+    isupper items join keys ljust lower lstrip partition pop remove replace reverse rfind rjust rpartition rsplit rstrip
+    setdefault split splitlines startswith strip update upper values zfill bit_length removeprefix removesuffix isascii
+    """.split())
+DUNDERS = set("""__init__ __eq__ __repr__ __str__ __len__ __enter__ __exit__ __call__ __iter__ __add__ __sub__ __mul__
+    __rmul__ __contains__ __getitem__ __bool__""".split())
+STATEMENTS = (ast.Assign, ast.AugAssign, ast.If, ast.While, ast.For, ast.Return, ast.Break, ast.Continue, ast.Pass,
+              ast.Raise, ast.Delete, ast.Expr, ast.FunctionDef, ast.ClassDef, ast.ImportFrom)
+CLASSES = {
+    "shares": {"Share": ["top", "bottom=1"]},
+    "plats": {"Plat": ["rows", "*", "road=()"]},
+    "ways": {"Ways": ["plat", "steps"]},
+    "titles": {"Titles": ["owners"]},
+    "claims": {"Claim": ["name", "owner", "amount", "lot"]},
+    "ranks": {"RankList": ["*claims"]},
+}
+LISTED = {
+    "words": "is_name(value) is_lot(value) is_amount(value) is_price(value) is_day(value) is_number(value,least,most)",
+    "cells": "is_cell(value) beside(cell) check_cells(cells) hangs_together(cells) pieces(cells) side_count(cells) "
+             "corner_counts(cells) holes(cells)",
+    "plattexts": "plat_text(plat) read_plat(text)",
+    "granting": "possible_steps(plat) fewest_steps(ways) is_answer(ways,value)",
+    "rankdeeds": "changed(ranks,deed)",
+    "ranktexts": "ranks_text(ranks) read_ranks(text)",
+    "Share": "less(self,other) read(text) __add__(self,other) __sub__(self,other) __mul__(self,other) "
+             "__rmul__(self,other) __eq__(self,other) __str__(self) __repr__(self)",
+    "Plat": "rows(self) road(self) names(self) parcel_at(self,cell) cells(self,name) area(self,name) rim(self,name) "
+            "outline(self,name) corners(self,name) hole_count(self,name) neighbours(self,name) fronts(self,name) "
+            "border(self,first,second) divided(self,name,cells,new) united(self,first,second) mirrored(self) "
+            "single(name,height,width) __contains__(self,name) __eq__(self,other) __len__(self) __repr__(self)",
+    "Ways": "steps(self) with_steps(self,*steps) comes(self,name) way(self,name) gates(self,name) reached(self,name) "
+            "bare(self) __len__(self) __repr__(self)",
+    "Titles": "give(self,number,lot,giver,taker,share,*,good=False) inherit(self,number,person,heirs) "
+              "burden(self,number,lot,by,*,good=False) void(self,number,target) uphold(self,number,target) "
+              "divide(self,parcel,new) unite(self,first,second) parcels(self) persons(self) first_owner(self,parcel) "
+              "owners(self,parcel) share_of(self,parcel,person) stretches(self,parcel) chain(self,parcel,at) "
+              "stands(self,number,parcel) alike(self,first,second) void_by(self,number) twin(self) __len__(self) "
+              "__repr__(self)",
+    "Claim": "demand(self) with_owner(self,owner) with_amount(self,amount) with_lot(self,lot) held(cls,name,amount,lot) "
+             "reserved(self) __eq__(self,other) __repr__(self)",
+    "RankList": "claims(self) names(self) claim(self,name) rank(self,name) persons(self) owned(self,person) "
+                "parcels(self) demands(self) elders(self,name) __getitem__(self,rank) __iter__(self) "
+                "__add__(self,claim) __contains__(self,name) __eq__(self,other) __len__(self) __bool__(self) "
+                "__repr__(self)",
+}
+
+
+def read(module):
+    with open(os.path.join(FOLDER, module + ".py"), encoding="utf-8") as file:
+        return file.read()
+
+
+def trees():
+    return {module: ast.parse(read(module)) for module in MODULES}
+
+
+def functions(tree):
+    return [node for node in ast.walk(tree) if isinstance(node, ast.FunctionDef)]
+
+
+def bound_names(tree):
+    """All names that a file binds: by assignments, loops, parameters, functions, classes and imports."""
+    for node in ast.walk(tree):
+        if isinstance(node, ast.Name) and not isinstance(node.ctx, ast.Load):
+            yield node.id
+        elif isinstance(node, ast.arg):
+            yield node.arg
+        elif isinstance(node, ast.ClassDef):
+            yield node.name
+        elif isinstance(node, ast.ImportFrom):
+            yield from [alias.name for alias in node.names]
+
+
+def parameters(node):
+    """The parameters of a function as words."""
+    args = node.args
+    plain = [arg.arg for arg in args.args]
+    for at, default in enumerate(reversed(args.defaults)):
+        plain[-1 - at] += "=" + ast.unparse(default)
+    if args.vararg:
+        plain.append("*" + args.vararg.arg)
+    elif args.kwonlyargs:
+        plain.append("*")
+    for arg, default in zip(args.kwonlyargs, args.kw_defaults):
+        plain.append(arg.arg + "=" + ast.unparse(default))
+    return plain
+
+
+class Interface(unittest.TestCase):
+    def check(self, body, listed):
+        found = {node.name: node for node in body if isinstance(node, ast.FunctionDef)}
+        for entry in listed.split():
+            name, rest = entry[:-1].split("(")
+            self.assertIn(name, found)
+            self.assertEqual(parameters(found[name]), rest.split(",") if rest else [], name)
+
+    def test_functions_stand_in_their_files(self):
+        for module in ("words", "cells", "plattexts", "granting", "rankdeeds", "ranktexts"):
+            self.check(ast.parse(read(module)).body, LISTED[module])
+
+    def test_methods_stand_in_their_classes(self):
+        for module, classes in CLASSES.items():
+            for name, expected in classes.items():
+                tree = ast.parse(read(module))
+                [found] = [node for node in tree.body if isinstance(node, ast.ClassDef) and node.name == name]
+                self.check(found.body, LISTED[name])
+                [start] = [node for node in found.body if getattr(node, "name", "") == "__init__"]
+                self.assertEqual(parameters(start), ["self"] + expected)
+
+    def test_class_values_and_kinds_of_methods(self):
+        plats, ranks = import_module("deedranks.plats"), import_module("deedranks.ranks")
+        claims, shares = import_module("deedranks.claims"), import_module("deedranks.shares")
+        self.assertEqual((plats.Plat.MOST, ranks.RankList.MOST), (12, 24))
+        self.assertIsInstance(vars(claims.Claim)["reserved"], property)
+        self.assertIsInstance(vars(claims.Claim)["held"], classmethod)
+        self.assertIsInstance(vars(shares.Share)["read"], staticmethod)
+        self.assertIsInstance(vars(plats.Plat)["single"], staticmethod)
+
+
+class Form(unittest.TestCase):
+    def test_files(self):
+        for name in os.listdir(FOLDER):
+            self.assertTrue(name == "__pycache__" or name.endswith(".py"), name)
+            self.assertEqual(name, name.lower())
+
+    def test_sizes_and_characters(self):
+        for module in MODULES:
+            text = read(module)
+            lines = text.split("\n")
+            self.assertLess(len(lines), 400, module)
+            self.assertLessEqual(max(map(len, lines)), 120, module)
+            self.assertEqual([sign for sign in text if sign != "\n" and not " " <= sign <= "~"], [], module)
+            for node in functions(ast.parse(text)):
+                self.assertLessEqual(node.end_lineno - node.lineno + 1, 40, node.name)
+
+    def test_imports(self):
+        for module, tree in trees().items():
+            for node in ast.walk(tree):
+                self.assertNotIsInstance(node, (ast.Import, ast.AsyncFunctionDef, ast.Global, ast.Try, ast.With))
+                if not isinstance(node, ast.ImportFrom):
+                    continue
+                self.assertIn(node, tree.body)
+                self.assertEqual(node.level, 0)
+                self.assertTrue(all(alias.asname is None for alias in node.names))
+                if node.module == "math":
+                    self.assertEqual([alias.name for alias in node.names], ["gcd"])
+                    continue
+                self.assertTrue(node.module.startswith("deedranks."), module)
+                home = ast.parse(read(node.module.split(".")[1]))
+                defined = [part.name for part in home.body if isinstance(part, (ast.FunctionDef, ast.ClassDef))]
+                for alias in node.names:
+                    self.assertIn(alias.name, defined)
+
+    def test_no_import_in_circles_and_none_unused(self):
+        needs = {}
+        for module, tree in trees().items():
+            parts = [node for node in tree.body if isinstance(node, ast.ImportFrom) and node.module != "math"]
+            needs[module] = {node.module.split(".")[1] for node in parts}
+            used = {node.id for node in ast.walk(tree) if isinstance(node, ast.Name)}
+            for part in parts:
+                self.assertEqual([alias.name for alias in part.names if alias.name not in used], [], module)
+        while needs:
+            free = [module for module in needs if not needs[module] & set(needs)]
+            self.assertNotEqual(free, [], needs)
+            for module in free:
+                del needs[module]
+
+    def test_statements_and_expressions(self):
+        barred = (ast.GeneratorExp, ast.Lambda, ast.NamedExpr, ast.Set, ast.AnnAssign, ast.Div)
+        for module, tree in trees().items():
+            for node in ast.walk(tree):
+                if isinstance(node, ast.stmt):
+                    self.assertIsInstance(node, STATEMENTS, module)
+                if isinstance(node, ast.Constant):
+                    self.assertNotIsInstance(node.value, (float, complex, bytes), module)
+                self.assertNotIsInstance(node, barred, module)
+                if isinstance(node, (ast.FunctionDef, ast.arg)):
+                    self.assertIsNone(getattr(node, "returns", None))
+                    self.assertIsNone(getattr(node, "annotation", None))
+                if isinstance(node, ast.BinOp) and isinstance(node.op, ast.Pow):
+                    self.assertIn(getattr(node.right, "value", None), range(65), module)
+                if isinstance(node, ast.Compare) and any(isinstance(op, (ast.Is, ast.IsNot)) for op in node.ops):
+                    self.assertIn(ast.unparse(node.comparators[0]), ("None", "True", "False"))
+
+    def test_decorators(self):
+        for tree in trees().values():
+            for node in ast.walk(tree):
+                for one in getattr(node, "decorator_list", []):
+                    self.assertIn(ast.unparse(one), ("property", "staticmethod", "classmethod"))
+
+    def test_names(self):
+        for module, tree in trees().items():
+            for name in bound_names(tree):
+                self.assertNotIn(name, BUILTINS, module)
+                self.assertNotIn(name, BARRED, module)
+            for node in ast.walk(tree):
+                if isinstance(node, ast.Name) and isinstance(node.ctx, ast.Load):
+                    self.assertNotEqual(node.id, "_")
+                    if node.id in BUILTINS:
+                        self.assertIn(node.id, ALLOWED, module)
+            for node in functions(tree):
+                self.assertNotIn(node.name, BUILTINS | BARRED)
+                if node.name.startswith("__"):
+                    self.assertIn(node.name, DUNDERS)
+
+    def test_no_name_has_two_meanings_in_a_file(self):
+        for module, tree in trees().items():
+            outer = [node.name for node in tree.body if isinstance(node, (ast.FunctionDef, ast.ClassDef))]
+            outer += [alias.name for node in tree.body if isinstance(node, ast.ImportFrom) for alias in node.names]
+            outer += [node.targets[0].id for node in tree.body if isinstance(node, ast.Assign)]
+            self.assertEqual(len(outer), len(set(outer)), module)
+            for node in functions(tree):
+                self.assertEqual(set(bound_names(node)) & set(outer), set(), module)
+
+    def test_methods_of_builtin_values(self):
+        own = {node.name for tree in trees().values() for node in functions(tree)}
+        for module, tree in trees().items():
+            for node in ast.walk(tree):
+                if isinstance(node, ast.Call) and isinstance(node.func, ast.Attribute):
+                    self.assertIn(node.func.attr, METHODS | own, module)
+
+    def test_sets_are_used_on_the_spot(self):
+        for module, tree in trees().items():
+            for node in ast.walk(tree):
+                for part in ast.iter_child_nodes(node):
+                    made = isinstance(part, ast.Call) and isinstance(part.func, ast.Name) and part.func.id == "set"
+                    if made or isinstance(part, ast.SetComp):
+                        self.assertIsInstance(node, (ast.Call, ast.Compare), module)
+                        if isinstance(node, ast.Call):
+                            self.assertIn(node.func.id, ("sorted", "len"), module)
+
+    def test_strings(self):
+        for module in MODULES:
+            with open(os.path.join(FOLDER, module + ".py"), "rb") as file:
+                for token in tokenize.tokenize(file.readline):
+                    if token.type == tokenize.STRING:
+                        self.assertNotIn("%", token.string)
+                        rest = token.string
+                        for known in ("\\\\", "\\n", "\\t", "\\'", '\\"'):
+                            rest = rest.replace(known, "")
+                        self.assertNotIn("\\", rest)
+
+    def test_special_methods_change_nothing(self):
+        for module, tree in trees().items():
+            for node in functions(tree):
+                if node.name in ("__eq__", "__repr__", "__str__", "__len__", "__bool__", "__contains__", "__iter__"):
+                    for part in ast.walk(node):
+                        self.assertNotIsInstance(part, (ast.Assign, ast.AugAssign, ast.For, ast.While), module)
+                    self.assertIsInstance(node.body[-1], ast.Return)
+
+    def test_no_class_has_one_name_for_a_method_and_an_attribute(self):
+        for tree in trees().values():
+            for node in ast.walk(tree):
+                if isinstance(node, ast.ClassDef):
+                    methods = {part.name for part in node.body if isinstance(part, ast.FunctionDef)}
+                    stored = {part.attr for part in ast.walk(node)
+                              if isinstance(part, ast.Attribute) and isinstance(part.ctx, ast.Store)}
+                    self.assertEqual(methods & stored, set())
+
+    def test_every_module_can_be_imported(self):
+        for module in MODULES:
+            name = "deedranks" if module == "__init__" else "deedranks." + module
+            self.assertTrue(inspect.getdoc(import_module(name)), name)
+
+
+if __name__ == "__main__":
+    unittest.main()
