@@ -1,0 +1,46 @@
+"""The examples of the document, as far as the modules are there."""
+
+import unittest
+
+from deedranks.claims import Claim
+from deedranks.errors import InvalidAmount
+from deedranks.granting import fewest_steps
+from deedranks.plats import Plat
+from deedranks.rankdeeds import changed
+from deedranks.ranks import RankList
+from deedranks.shares import Share
+from deedranks.titles import Titles
+from deedranks.ways import Ways
+from support import Case
+
+
+class Examples(Case):
+    def test_the_passing_1_becomes_void(self):
+        titles = Titles({"a": "ann"})
+        titles.give(1, ("a",), "ann", "bob", Share(1))
+        titles.give(2, ("a",), "bob", "cyd", Share(1, 2), good=True)
+        titles.give(3, ("a",), "bob", "dan", Share(1, 2))
+        titles.void(4, 1)
+        self.same([str(titles.share_of("a", "ann")), str(titles.share_of("a", "cyd")), titles.chain("a", Share(3, 4))],
+                  ["1/2", "1/2", [(1, ("ann",), "bob", False), (3, ("bob",), "dan", False)]])
+
+    def test_only_a_fronts_the_road(self):
+        ways = Ways(Plat([["c", "b", "a"]], road=[(0, 2)]), [("b", "c")])
+        self.same([ways.bare(), ways.reached("b"), fewest_steps(ways)[0]],
+                  [["b", "c"], ["b", "c"], [("b", "a"), ("c", "b")]])
+
+    def test_a_parcel_that_is_released(self):
+        ranks = RankList(Claim("one", "ann", 1, ("a", "b")), Claim("two", "bob", 1, ("a",)))
+        self.same([changed(ranks, ("release", "one", "b")).demands(), changed(ranks, ("release", "one", "a")).demands()],
+                  [[("one", 1, ("a",)), ("two", 1, ("a",))], [("one", 1, ("b",)), ("two", 1, ("a",))]])
+
+    def test_a_claim_of_nothing(self):
+        self.fails(InvalidAmount, lambda: Claim("one", "ann", 0, ("a",)), 0)
+
+    def test_the_texts_of_shares(self):
+        self.same([str(Share(3, 4)), str(Share(0)), str(Share(-1, 2)), repr(Share(3, 4))],
+                  ["3/4", "0", "-1/2", "Share(3, 4)"])
+
+
+if __name__ == "__main__":
+    unittest.main()
