@@ -89,8 +89,7 @@ def _all_cells():
 
 def _around(cell):
     row, column = cell
-    places = [(row + down, column + right) for down in (-1, 0, 1) for right in (-1, 0, 1)]
-    return [other for other in places if is_cell(other) and other != cell]
+    return [(row + down, column + right) for down in (-1, 0, 1) for right in (-1, 0, 1)]
 
 
 def _at_end(cell):

@@ -61,16 +61,15 @@ def judged_chain(chain, first, voids, goods):
     """
     owner = first
     counts = []
-    for at, (number, givers, taker) in enumerate(chain):
-        fits = owner in givers or (goods[number] and not _is_warned(chain[:at], number, voids))
-        counted = number not in voids and fits
+    # The least number by which an item ahead is void; each good item with a greater number has been warned.
+    warning = None
+    for number, givers, taker in chain:
+        protected = goods[number] and (warning is None or warning >= number)
+        counted = number not in voids and (owner in givers or protected)
         # A burden has no taker.
         if counted and taker != "":
             owner = taker
+        if number in voids and (warning is None or voids[number] < warning):
+            warning = voids[number]
         counts.append(counted)
     return counts, owner
-
-
-def _is_warned(ahead, number, voids):
-    """Whether an item ahead has a number that is void by an entry with a lower number."""
-    return any([item[0] in voids and voids[item[0]] < number for item in ahead])

@@ -25,8 +25,8 @@ class Plat:
         check_cells_of(edge_cells(self.height, self.width), road)
         self._road = sorted(road)
 
-    def __contains__(self, name):
-        return is_name(name) and name in self._cells
+    def __contains__(self, x):
+        return is_name(x) and x in self._cells
 
     def __eq__(self, other):
         return isinstance(other, Plat) and self._rows == other._rows and self._road == other._road
@@ -99,7 +99,8 @@ class Plat:
 
     def border(self, first, second):
         """The number of sides between two parcels, 0 for one parcel twice."""
-        self._check_both(first, second)
+        for name in (first, second):
+            self._cells_of(name)
         if first == second:
             return 0
         return self._names_beside(first).count(second)
@@ -125,7 +126,6 @@ class Plat:
 
     def united(self, first, second):
         """The plat in which two neighbours form the first one of them."""
-        self._check_both(first, second)
         if self.border(first, second) == 0:
             raise NotBeside(first, second)
         rows = [[first if name == second else name for name in row] for row in self._rows]
@@ -140,11 +140,6 @@ class Plat:
         if name not in self:
             raise UnknownParcel(name)
         return self._cells[name]
-
-    def _check_both(self, first, second):
-        for name in (first, second):
-            if name not in self:
-                raise UnknownParcel(name)
 
     def _names_beside(self, name):
         """The parcels behind the sides of a parcel that are not at the outside, one for each side of a cell."""

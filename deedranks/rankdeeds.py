@@ -2,7 +2,7 @@
 
 from deedranks.claims import Claim
 from deedranks.errors import Behind, DuplicateName, InsideLot, InvalidAmount, InvalidClaim, InvalidDeed, InvalidName
-from deedranks.errors import InvalidNumber, NotReserved, OutsideLot, Reserved, TooMany, Unequal, UnknownClaim, Unlike
+from deedranks.errors import InvalidNumber, NotReserved, OutsideLot, Reserved, TooMany, Unequal, Unlike
 from deedranks.ranks import RankList
 from deedranks.words import is_name, is_number
 
@@ -35,7 +35,6 @@ def _enter(ranks, claim, at):
 
 
 def _cancel(ranks, name):
-    ranks.claim(name)
     return _replaced(ranks, name, [])
 
 
@@ -160,9 +159,6 @@ def _check_name(value):
 
 def _check_order(ranks, first, second):
     """Raises unless both are names of claims, the first one of the elder claim."""
-    for name in (first, second):
-        if name not in ranks:
-            raise UnknownClaim(name)
     if ranks.rank(first) >= ranks.rank(second):
         raise Behind(first, second)
 

@@ -32,16 +32,16 @@ class RankList:
     def __iter__(self):
         return iter(self._claims)
 
-    def __getitem__(self, rank):
-        if not is_number(rank, 1, len(self._claims)):
-            raise InvalidNumber(rank)
-        return self._claims[rank - 1]
+    def __getitem__(self, at):
+        if not is_number(at, 1, len(self._claims)):
+            raise InvalidNumber(at)
+        return self._claims[at - 1]
 
-    def __contains__(self, name):
-        return name in self._names
+    def __contains__(self, x):
+        return x in self._names
 
-    def __add__(self, claim):
-        return RankList(*self._claims, claim)
+    def __add__(self, other):
+        return RankList(*self._claims, other)
 
     def __eq__(self, other):
         return isinstance(other, RankList) and self._claims == other._claims

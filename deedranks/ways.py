@@ -97,7 +97,7 @@ def _distances(fronting, steps):
     ring = fronting
     while ring != []:
         ring = sorted({start for start, over in steps if over in ring and start not in far})
-        many = max(list(far.values()), default=0) + 1
+        many = max(list(far.values())) + 1
         for name in ring:
             far[name] = many
     return far

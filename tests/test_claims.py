@@ -100,7 +100,11 @@ class Lists(Case):
         self.same(ranks.persons(), ["ann", "cyd"])
         self.same([ranks.owned("cyd"), ranks.owned(person="ann"), ranks.owned("bob"), ranks.owned("-")],
                   [["one", "four"], ["three"], [], []])
+        self.assertEqual(ranks.owned(None), [])
         self.same(ranks.parcels(), ["a", "b", "d", "e"])
+        names = [letter for letter in LETTERS[:24][::-1]]
+        many = RankList(*[Claim(name, name, 1, (name,)) for name in names])
+        self.same([many.names(), many.persons(), many.parcels()], [names, names[::-1], names[::-1]])
         self.assertEqual([len(ranks), repr(ranks), repr(RankList(self.one))],
                          [4, "RankList(4 claims)", "RankList(1 claims)"])
 

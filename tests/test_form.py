@@ -47,7 +47,7 @@ LISTED = {
     "Plat": "rows(self) road(self) names(self) parcel_at(self,cell) cells(self,name) area(self,name) rim(self,name) "
             "outline(self,name) corners(self,name) hole_count(self,name) neighbours(self,name) fronts(self,name) "
             "border(self,first,second) divided(self,name,cells,new) united(self,first,second) mirrored(self) "
-            "single(name,height,width) __contains__(self,name) __eq__(self,other) __len__(self) __repr__(self)",
+            "single(name,height,width) __contains__(self,x) __eq__(self,other) __len__(self) __repr__(self)",
     "Ways": "steps(self) with_steps(self,*steps) comes(self,name) way(self,name) gates(self,name) reached(self,name) "
             "bare(self) __len__(self) __repr__(self)",
     "Titles": "give(self,number,lot,giver,taker,share,*,good=False) inherit(self,number,person,heirs) "
@@ -59,8 +59,8 @@ LISTED = {
     "Claim": "demand(self) with_owner(self,owner) with_amount(self,amount) with_lot(self,lot) held(cls,name,amount,lot) "
              "reserved(self) __eq__(self,other) __repr__(self)",
     "RankList": "claims(self) names(self) claim(self,name) rank(self,name) persons(self) owned(self,person) "
-                "parcels(self) demands(self) elders(self,name) __getitem__(self,rank) __iter__(self) "
-                "__add__(self,claim) __contains__(self,name) __eq__(self,other) __len__(self) __bool__(self) "
+                "parcels(self) demands(self) elders(self,name) __getitem__(self,at) __iter__(self) "
+                "__add__(self,other) __contains__(self,x) __eq__(self,other) __len__(self) __bool__(self) "
                 "__repr__(self)",
 }
 

@@ -197,6 +197,7 @@ class Deeds(Case):
         self.gives(("divide", "y", "z"), self.one, self.two, self.three)
         for value in any_values():
             self.refused(("divide", value, value), InvalidName, value)
+            self.refused(("divide", value, "c"), InvalidName, value)
             self.refused(("divide", "a", value), InvalidName, value)
         self.refused(("divide", "a", "a"), DuplicateName, "a")
         self.refused(("divide", "y", "y"), DuplicateName, "y")
@@ -216,6 +217,7 @@ class Deeds(Case):
         self.gives(("unite", "y", "z"), self.one, self.two, self.three)
         for value in any_values():
             self.refused(("unite", value, value), InvalidName, value)
+            self.refused(("unite", value, "c"), InvalidName, value)
             self.refused(("unite", "a", value), InvalidName, value)
         self.refused(("unite", "a", "a"), DuplicateName, "a")
         self.refused(("unite", "y", "y"), DuplicateName, "y")

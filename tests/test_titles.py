@@ -284,6 +284,17 @@ class Voiding(Case):
         titles.uphold(11, 2)
         self.assertEqual(counts(titles, "a"), [(1, False), (2, False), (20, False)])
 
+    def test_the_least_void_number_ahead_warns(self):
+        for lower in (1, 2):
+            titles = Titles({"a": "ann"})
+            titles.give(1, ("a",), "ann", "bob", WHOLE)
+            titles.give(2, ("a",), "bob", "cyd", WHOLE)
+            titles.give(20, ("a",), "cyd", "dan", WHOLE, good=True)
+            titles.void(30, 3 - lower)
+            self.assertEqual(shares(titles, "a"), {"dan": "1"})
+            titles.void(10, lower)
+            self.assertEqual(shares(titles, "a"), {"ann": "1"})
+
     def test_an_item_counts_again_if_its_giver_has_the_point_otherwise(self):
         titles = Titles({"a": "ann"})
         titles.give(1, ("a",), "ann", "bob", WHOLE)
@@ -449,6 +460,8 @@ class Asking(Case):
         for value in any_values() + [1, 999, 1000, "3", (3,), [3]]:
             self.assertIs(self.titles.stands(value, "a"), False)
         self.assertIs(self.titles.stands(3, "b"), False)
+        self.titles.burden(1, ("b",), ("bob",))
+        self.assertEqual([self.titles.stands(1, "b"), self.titles.stands(True, "b")], [True, False])
 
     def test_void_by_of_any_value(self):
         self.titles.void(1, 3)

@@ -22,7 +22,7 @@ class Words(unittest.TestCase):
 
     def test_names(self):
         good = ["a", "z", "ab", "abcdef", "zzzzzz", "yield"]
-        self.check(is_name, good, any_values() + ["abcdefg", "", "aB", "a-b", "a_b", "a ", " a", "\n", "a\n", "ab1"])
+        self.check(is_name, good, any_values() + ["abcdefg", "", "aB", "a-b", "a_b", "a ", " a", "\n", "a\n", "ab1", "\u00e4", "a\u00df"])
 
     def test_lots(self):
         good = [("a",), ("a", "b"), ("a", "aa", "b"), lot_of(11), lot_of(12)]
@@ -69,7 +69,7 @@ class Texts(unittest.TestCase):
 
     def test_numbers_without_leading_zeros(self):
         self.assertEqual([read_number(text) for text in ("0", "7", "10", "9" * 12)], [0, 7, 10, 10 ** 12 - 1])
-        for text in ("", "00", "07", "-1", "+1", " 1", "1 ", "1_0", "1.0", "a", "1" * 13, "0" * 13):
+        for text in ("", "00", "07", "-1", "+1", " 1", "1 ", "1_0", "1.0", "a", "1" * 13, "0" * 13, "\u00b2", "\u0661"):
             self.assertIsNone(read_number(text))
 
     def test_lines(self):
