@@ -6,6 +6,7 @@ import inspect
 import os
 import tokenize
 import unittest
+import warnings
 from importlib import import_module
 
 FOLDER = os.path.join(os.path.dirname(os.path.dirname(os.path.abspath(__file__))), "deedranks")
@@ -152,6 +153,12 @@ class Form(unittest.TestCase):
             self.assertEqual([sign for sign in text if sign != "\n" and not " " <= sign <= "~"], [], module)
             for node in functions(ast.parse(text)):
                 self.assertLessEqual(node.end_lineno - node.lineno + 1, 40, node.name)
+
+    def test_python_warns_of_no_line(self):
+        with warnings.catch_warnings():
+            warnings.simplefilter("error")
+            for module in MODULES:
+                compile(read(module), module + ".py", "exec")
 
     def test_imports(self):
         for module, tree in trees().items():
