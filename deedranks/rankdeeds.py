@@ -3,7 +3,7 @@
 from deedranks.claims import Claim
 from deedranks.errors import Behind, DuplicateName, InsideLot, InvalidAmount, InvalidClaim, InvalidDeed, InvalidName
 from deedranks.errors import InvalidNumber, NotReserved, OutsideLot, Reserved, TooMany, Unequal, Unlike
-from deedranks.ranks import RankList
+from deedranks.ranks import RankList, owned_claim
 from deedranks.words import is_name, is_number
 
 _MOST_PARCELS = 12
@@ -48,9 +48,7 @@ def _repay(ranks, name, many):
 
 
 def _assign(ranks, name, person):
-    claim = ranks.claim(name)
-    if claim.reserved:
-        raise Reserved(name)
+    claim = owned_claim(ranks, name)
     _check_name(person)
     return _replaced(ranks, name, [claim.with_owner(person)])
 

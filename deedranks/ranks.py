@@ -1,7 +1,7 @@
 """Rank lists: claims in the order of their ranks."""
 
 from deedranks.claims import Claim
-from deedranks.errors import DuplicateName, InvalidClaim, InvalidNumber, TooMany, UnknownClaim
+from deedranks.errors import DuplicateName, InvalidClaim, InvalidNumber, Reserved, TooMany, UnknownClaim
 from deedranks.words import is_number
 
 
@@ -87,3 +87,11 @@ class RankList:
         """The list of the demands that are elder than the claim with a name."""
         ahead = self._claims[:self.rank(name) - 1]
         return [claim.demand() for claim in ahead if not claim.reserved]
+
+
+def owned_claim(ranks, name):
+    """The claim with a name; raises for any value that is no name of a claim, and if the claim is reserved."""
+    claim = ranks.claim(name)
+    if claim.reserved:
+        raise Reserved(name)
+    return claim

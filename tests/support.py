@@ -1,9 +1,11 @@
-"""What the tests share: values of any kind, and a check of errors with their attributes."""
+"""What the tests share: values of any kind, plain models of plans and cuts, and a check of errors with attributes."""
 
+import itertools
+import random
 import unittest
 
 from deedranks.claims import Claim
-from deedranks.errors import InvalidName
+from deedranks.errors import InvalidDemand, InvalidName, InvalidPrices, TooMany
 from deedranks.plats import Plat
 from deedranks.ranks import RankList
 from deedranks.shares import Share
@@ -22,6 +24,87 @@ def any_values():
         Share(1, 2), Share(0), plat, Ways(plat, []), Titles({"a": "ann"}), Claim("one", "ann", 1, ("a",)), RankList(),
         RankList(Claim("a", None, 1, ("a",))), InvalidName("a"), (Share(1), Share(1)), (plat, plat), [Share(1, 2)],
     ]
+
+
+def wrong_prices():
+    """Values of any kind that are no prices, each with the key of its error."""
+    values = [value for value in any_values() if not isinstance(value, dict)]
+    cases = [(value, None) for value in values] + [({"a": value}, "a") for value in values if not is_plain_price(value)]
+    return cases + [({"b": 1, "A": 2, "a": -1}, "A"), ({"a": -1, "A": 2}, "a"), ({"a": 1, 1: 2, "": 3}, 1), ({"a": 1, None: 1}, None),
+                    ({"a": {}, "b": -1}, "a"), ({(0, 0): "a"}, (0, 0)), ({"a": 1, "b": True}, "b"), ({True: 1}, True)]
+
+
+def is_plain_price(value):
+    return isinstance(value, int) and value is not True and value is not False and value >= 0
+
+
+def wrong_demands():
+    """Values of any kind that are no demands, each with the place of its first wrong item."""
+    one = ("one", 1, ("a",))
+    values = any_values()
+    cases = [(value, -1) for value in values if not isinstance(value, (list, tuple))]
+    cases += [([one, value], 1) for value in values] + [((value, one), 0) for value in values]
+    return cases + [([one, one], 1), ([one, ("two", 1, ("a",)), ("one", 2, ("b",)), 5], 2), ([("one", 0, ("a",)), one], 0)]
+
+
+def random_claims(rng, many, parcels, most):
+    """A rank list of claims with small amounts, some of them reserved."""
+    names = rng.sample("abcdefghijklmnopqrstuvwx", many)
+    rows = []
+    for name in names:
+        lot = tuple(sorted(rng.sample(parcels, rng.randint(1, min(len(parcels), 4)))))
+        rows.append(Claim(name, rng.choice([None, "ann", "bob", "cyd", "dan", "eve"]), rng.randint(1, most), lot))
+    return RankList(*rows)
+
+
+def random_prices(rng, parcels, most):
+    """Prices of some of the parcels and of one in no lot, in any order."""
+    named = rng.sample([*parcels, "zz"], rng.randint(0, len(parcels) + 1))
+    return {parcel: rng.randint(0, most) for parcel in named}
+
+
+def random_cases(seed, many):
+    """Triples of a number source, a rank list and prices."""
+    for at in range(many):
+        rng = random.Random(f"{seed} {at}")
+        parcels = list("abcde"[:rng.randint(1, 5)])
+        most = rng.choice([2, 4, 6])
+        yield rng, random_claims(rng, rng.randint(0, 5), parcels, most), random_prices(rng, parcels, most + 1)
+
+
+def all_cuts(demands):
+    """All lists of names of demands in their order."""
+    names = [name for name, _, _ in demands]
+    return [list(cut) for many in range(len(names) + 1) for cut in itertools.combinations(names, many)]
+
+
+def plain_value(demands, prices, cut, parcels=None):
+    """The value of a cut."""
+    value = sum(amount for name, amount, _ in demands if name not in cut)
+    touched = set(parcel for name, _, lot in demands if name in cut for parcel in lot)
+    return value + sum(prices.get(parcel, 0) for parcel in touched if parcels is None or parcel in parcels)
+
+
+def least_cuts(demands, prices, parcels=None):
+    """All least cuts."""
+    values = [(plain_value(demands, prices, cut, parcels), cut) for cut in all_cuts(demands)]
+    return [cut for value, cut in values if value == min(values)[0]]
+
+
+def plain_sum(demands, prices, parcels=None):
+    """The greatest sum, by all cuts."""
+    return min(plain_value(demands, prices, cut, parcels) for cut in all_cuts(demands))
+
+
+def plain_totals(ranks, prices):
+    """The pairs (name, total) of all claims, by cuts alone."""
+    rows, ahead = [], []
+    for claim in ranks:
+        before = plain_sum(ahead, prices)
+        if claim.owner is not None:
+            ahead = ahead + [(claim.name, claim.amount, claim.lot)]
+        rows.append((claim.name, plain_sum(ahead, prices) - before))
+    return rows
 
 
 class Case(unittest.TestCase):
@@ -50,3 +133,28 @@ class Case(unittest.TestCase):
             self.assertEqual(list(found), list(expected))
             for key in expected:
                 self.same(found[key], expected[key])
+
+    def is_plain_plan(self, demands, prices, plan):
+        """plan is a dict with its keys in order that is a plan, looked at item by item."""
+        self.assertIs(plan.__class__, dict)
+        self.assertEqual(list(plan), sorted(plan))
+        lots = {name: lot for name, _, lot in demands}
+        for (name, parcel), number in plan.items():
+            self.assertIn(parcel, lots[name])
+            self.assertIs(number.__class__, int)
+            self.assertGreater(number, 0)
+        for name, amount, _ in demands:
+            self.assertLessEqual(sum(plan[pair] for pair in plan if pair[0] == name), amount)
+        for parcel in {pair[1] for pair in plan}:
+            self.assertLessEqual(sum(plan[pair] for pair in plan if pair[1] == parcel), prices.get(parcel, 0))
+
+    def fails_by_demands(self, call):
+        """call raises as check_demands for its argument."""
+        for value, at in wrong_demands():
+            self.fails(InvalidDemand, lambda: call(value), at)
+        self.fails(TooMany, lambda: call([("one", 1, ("a",))] * 25), 24)
+
+    def fails_by_prices(self, call):
+        """call raises as check_prices for its argument."""
+        for value, key in wrong_prices():
+            self.fails(InvalidPrices, lambda: call(value), key)

@@ -4,12 +4,14 @@ import unittest
 
 from deedranks.claims import Claim
 from deedranks.errors import InvalidAmount
+from deedranks.foul import foul_pay
 from deedranks.granting import fewest_steps
 from deedranks.plats import Plat
 from deedranks.rankdeeds import changed
 from deedranks.ranks import RankList
 from deedranks.shares import Share
 from deedranks.titles import Titles
+from deedranks.totals import totals
 from deedranks.ways import Ways
 from support import Case
 
@@ -31,8 +33,17 @@ class Examples(Case):
 
     def test_a_parcel_that_is_released(self):
         ranks = RankList(Claim("one", "ann", 1, ("a", "b")), Claim("two", "bob", 1, ("a",)))
+        prices = {"a": 1, "b": 1}
+        self.same([totals(changed(ranks, ("release", "one", "b")), prices),
+                   totals(changed(ranks, ("release", "one", "a")), prices)],
+                  [[("one", 1), ("two", 0)], [("one", 1), ("two", 1)]])
         self.same([changed(ranks, ("release", "one", "b")).demands(), changed(ranks, ("release", "one", "a")).demands()],
                   [[("one", 1, ("a",)), ("two", 1, ("a",))], [("one", 1, ("b",)), ("two", 1, ("a",))]])
+
+    def test_totals_and_a_foul_pay(self):
+        ranks = RankList(Claim("one", "ann", 1, ("a", "b")), Claim("two", "bob", 1, ("a",)))
+        prices = {"a": 1, "b": 1}
+        self.same([totals(ranks, prices), foul_pay(ranks, prices, "two")], [[("one", 1), ("two", 1)], 0])
 
     def test_a_claim_of_nothing(self):
         self.fails(InvalidAmount, lambda: Claim("one", "ann", 0, ("a",)), 0)

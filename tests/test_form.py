@@ -43,6 +43,19 @@ LISTED = {
     "granting": "possible_steps(plat) fewest_steps(ways) is_answer(ways,value)",
     "rankdeeds": "changed(ranks,deed)",
     "ranktexts": "ranks_text(ranks) read_ranks(text)",
+    "demands": "is_demand(value) check_demands(value) check_prices(value) price_row(**prices)",
+    "plans": "is_plan(demands,prices,value) plan_sum(plan) plan_totals(demands,plan) taken_from(plan,parcel) "
+             "rests(prices,plan)",
+    "flows": "greatest_sum(demands,prices,*,parcels=None) greatest_plan(demands,prices,*,parcels=None) "
+             "find_moving(demands,prices,plan) is_moving(demands,prices,plan,value) room(demands,prices,plan,names) "
+             "moved(demands,prices,plan,names,many)",
+    "cuts": "is_cut(demands,value) cut_value(demands,prices,names,*,parcels=None) "
+            "smallest_cut(demands,prices,*,parcels=None) largest_cut(demands,prices,*,parcels=None)",
+    "totals": "sums(ranks,prices) totals(ranks,prices) pays(ranks,prices) right_plan(ranks,prices) "
+              "is_right(ranks,prices,value)",
+    "papers": "certificate(ranks,prices) judged(ranks,prices,plan,cuts)",
+    "foul": "drawn_most(ranks,prices,name) foul_pay(ranks,prices,name) foul_plan(ranks,prices,name) "
+            "is_safe(ranks,prices,name)",
     "Share": "less(self,other) read(text) __add__(self,other) __sub__(self,other) __mul__(self,other) "
              "__rmul__(self,other) __eq__(self,other) __str__(self) __repr__(self)",
     "Plat": "rows(self) road(self) names(self) parcel_at(self,cell) cells(self,name) area(self,name) rim(self,name) "
@@ -104,6 +117,8 @@ def parameters(node):
         plain.append("*")
     for arg, default in zip(args.kwonlyargs, args.kw_defaults):
         plain.append(arg.arg + "=" + ast.unparse(default))
+    if args.kwarg:
+        plain.append("**" + args.kwarg.arg)
     return plain
 
 
@@ -116,7 +131,7 @@ class Interface(unittest.TestCase):
             self.assertEqual(parameters(found[name]), rest.split(",") if rest else [], name)
 
     def test_functions_stand_in_their_files(self):
-        for module in ("words", "cells", "plattexts", "granting", "rankdeeds", "ranktexts"):
+        for module in [name for name in LISTED if name.islower()]:
             self.check(ast.parse(read(module)).body, LISTED[module])
 
     def test_methods_stand_in_their_classes(self):
