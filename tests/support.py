@@ -59,7 +59,7 @@ def random_claims(rng, many, parcels, most):
 
 def random_prices(rng, parcels, most):
     """Prices of some of the parcels and of one in no lot, in any order."""
-    named = rng.sample([*parcels, "zz"], rng.randint(0, len(parcels) + 1))
+    named = rng.sample([*parcels, "zz"], rng.choice([rng.randint(0, len(parcels)), len(parcels) + 1]))
     return {parcel: rng.randint(0, most) for parcel in named}
 
 

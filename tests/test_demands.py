@@ -60,7 +60,7 @@ class Prices(Case):
     def test_a_row(self):
         self.same(price_row(b=2, a=1, abcdef=0), {"a": 1, "abcdef": 0, "b": 2})
         self.same(price_row(), {})
-        self.same(price_row(value=3), {"value": 3})
+        self.same([price_row(value=3), price_row(prices=3)], [{"value": 3}, {"prices": 3}])
         self.fails(InvalidPrices, lambda: price_row(b=1, A=1, a=-1), "A")
         self.fails(InvalidPrices, lambda: price_row(b=1, a=True, A=1), "a")
         for value in any_values():

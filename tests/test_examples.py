@@ -6,6 +6,7 @@ from deedranks.claims import Claim
 from deedranks.errors import InvalidAmount
 from deedranks.foul import foul_pay
 from deedranks.granting import fewest_steps
+from deedranks.layers import layers, least_price
 from deedranks.plats import Plat
 from deedranks.rankdeeds import changed
 from deedranks.ranks import RankList
@@ -44,6 +45,12 @@ class Examples(Case):
         ranks = RankList(Claim("one", "ann", 1, ("a", "b")), Claim("two", "bob", 1, ("a",)))
         prices = {"a": 1, "b": 1}
         self.same([totals(ranks, prices), foul_pay(ranks, prices, "two")], [[("one", 1), ("two", 1)], 0])
+
+    def test_the_coins_of_one_parcel(self):
+        ranks = RankList(Claim("one", "ann", 3, ("a", "b")), Claim("two", "bob", 2, ("a",)),
+                         Claim("three", "cyd", 4, ("a", "b")))
+        self.same([list(layers(ranks, {"b": 2}, "a")), least_price(ranks, {"b": 2}, "a", "three", 1)],
+                  [[("one", 0, 1), ("two", 1, 3), ("three", 3, 7)], 4])
 
     def test_a_claim_of_nothing(self):
         self.fails(InvalidAmount, lambda: Claim("one", "ann", 0, ("a",)), 0)

@@ -34,6 +34,8 @@ CLASSES = {
     "titles": {"Titles": ["owners"]},
     "claims": {"Claim": ["name", "owner", "amount", "lot"]},
     "ranks": {"RankList": ["*claims"]},
+    "filling": {"Filling": ["ranks", "prices"]},
+    "boxes": {"Box": ["bounds"]},
 }
 LISTED = {
     "words": "is_name(value) is_lot(value) is_amount(value) is_price(value) is_day(value) is_number(value,least,most)",
@@ -56,6 +58,16 @@ LISTED = {
     "papers": "certificate(ranks,prices) judged(ranks,prices,plan,cuts)",
     "foul": "drawn_most(ranks,prices,name) foul_pay(ranks,prices,name) foul_plan(ranks,prices,name) "
             "is_safe(ranks,prices,name)",
+    "leaving": "left(ranks,prices,parcels) left_plan(ranks,prices,parcels,rest)",
+    "boxes": "pay_range(ranks,box,name) outlook(ranks,box,name,wanted) brings(ranks,box,name,wanted) "
+             "person_range(ranks,box,person)",
+    "layers": "layers(ranks,prices,parcel) coin_owner(ranks,prices,parcel,coin) "
+              "least_price(ranks,prices,parcel,name,wanted)",
+    "alike": "classes(first,second) caps(first,second) row_count(first,second) price_rows(first,second) "
+             "parting(first,second) are_alike(first,second)",
+    "signs": "signs(ranks,deed)",
+    "hurts": "hurt_prices(before,after,person) hurt_persons(before,after) leaves(ranks,deed) "
+             "with_leave(ranks,deed,*persons)",
     "Share": "less(self,other) read(text) __add__(self,other) __sub__(self,other) __mul__(self,other) "
              "__rmul__(self,other) __eq__(self,other) __str__(self) __repr__(self)",
     "Plat": "rows(self) road(self) names(self) parcel_at(self,cell) cells(self,name) area(self,name) rim(self,name) "
@@ -76,7 +88,11 @@ LISTED = {
                 "parcels(self) demands(self) elders(self,name) __getitem__(self,at) __iter__(self) "
                 "__add__(self,other) __contains__(self,x) __eq__(self,other) __len__(self) __bool__(self) "
                 "__repr__(self)",
+    "Filling": "come(self,name) came(self) totals(self) plan(self) complete(self) twin(self) __len__(self) "
+               "__repr__(self)",
+    "Box": "bounds(self) low(self) high(self) holds(self,prices) __eq__(self,other) __len__(self) __repr__(self)",
 }
+GENERATORS = ["layers.layers", "alike.price_rows"]
 
 
 def read(module):
@@ -151,6 +167,21 @@ class Interface(unittest.TestCase):
         self.assertIsInstance(vars(claims.Claim)["held"], classmethod)
         self.assertIsInstance(vars(shares.Share)["read"], staticmethod)
         self.assertIsInstance(vars(plats.Plat)["single"], staticmethod)
+        self.assertIsInstance(vars(import_module("deedranks.filling").Filling)["complete"], property)
+
+    def test_generators(self):
+        found = []
+        for module, tree in trees().items():
+            for node in functions(tree):
+                if any(isinstance(part, (ast.Yield, ast.YieldFrom)) for part in ast.walk(node)):
+                    found.append(f"{module}.{node.name}")
+        self.assertEqual(sorted(found), sorted(GENERATORS))
+        names = [name.split(".")[1] for name in GENERATORS]
+        every = [node.name for tree in trees().values() for node in functions(tree)]
+        self.assertEqual([name for name in names if every.count(name) != 1], [])
+        for name in GENERATORS:
+            module, word = name.split(".")
+            self.assertTrue(inspect.isgeneratorfunction(vars(import_module("deedranks." + module))[word]))
 
 
 class Form(unittest.TestCase):
