@@ -5,8 +5,10 @@ import random
 import unittest
 
 from deedranks.claims import Claim
-from deedranks.errors import InvalidDemand, InvalidName, InvalidPrices, TooMany
+from deedranks.errors import Behind, InsideLot, InvalidAmount, InvalidDemand, InvalidName, InvalidPrices, NotReserved
+from deedranks.errors import OutsideLot, Reserved, TooMany, Unequal, Unlike
 from deedranks.plats import Plat
+from deedranks.rankdeeds import changed
 from deedranks.ranks import RankList
 from deedranks.shares import Share
 from deedranks.titles import Titles
@@ -30,8 +32,9 @@ def wrong_prices():
     """Values of any kind that are no prices, each with the key of its error."""
     values = [value for value in any_values() if not isinstance(value, dict)]
     cases = [(value, None) for value in values] + [({"a": value}, "a") for value in values if not is_plain_price(value)]
-    return cases + [({"b": 1, "A": 2, "a": -1}, "A"), ({"a": -1, "A": 2}, "a"), ({"a": 1, 1: 2, "": 3}, 1), ({"a": 1, None: 1}, None),
-                    ({"a": {}, "b": -1}, "a"), ({(0, 0): "a"}, (0, 0)), ({"a": 1, "b": True}, "b"), ({True: 1}, True)]
+    return cases + [({"b": 1, "A": 2, "a": -1}, "A"), ({"a": -1, "A": 2}, "a"), ({"a": 1, 1: 2, "": 3}, 1),
+                    ({"a": 1, None: 1}, None), ({"a": {}, "b": -1}, "a"), ({(0, 0): "a"}, (0, 0)),
+                    ({"a": 1, "b": True}, "b"), ({True: 1}, True)]
 
 
 def is_plain_price(value):
@@ -44,7 +47,8 @@ def wrong_demands():
     values = any_values()
     cases = [(value, -1) for value in values if not isinstance(value, (list, tuple))]
     cases += [([one, value], 1) for value in values] + [((value, one), 0) for value in values]
-    return cases + [([one, one], 1), ([one, ("two", 1, ("a",)), ("one", 2, ("b",)), 5], 2), ([("one", 0, ("a",)), one], 0)]
+    return cases + [([one, one], 1), ([one, ("two", 1, ("a",)), ("one", 2, ("b",)), 5], 2),
+                    ([("one", 0, ("a",)), one], 0)]
 
 
 def random_claims(rng, many, parcels, most):
@@ -105,6 +109,54 @@ def plain_totals(ranks, prices):
             ahead = ahead + [(claim.name, claim.amount, claim.lot)]
         rows.append((claim.name, plain_sum(ahead, prices) - before))
     return rows
+
+
+def all_plans(demands, prices):
+    """All plans of few demands with small numbers."""
+    pairs = [(name, parcel) for name, _, lot in demands for parcel in lot]
+    ranges = [range(prices.get(parcel, 0) + 1) for _, parcel in pairs]
+    for numbers in itertools.product(*ranges):
+        plan = {pair: number for pair, number in zip(pairs, numbers) if number > 0}
+        over = any(sum(plan.get((name, parcel), 0) for parcel in lot) > amount for name, amount, lot in demands)
+        if not over and all(sum(n for key, n in plan.items() if key[1] == parcel) <= price
+                            for parcel, price in prices.items()):
+            yield plan
+
+
+def row_of(demands, plan):
+    """The row of totals of a plan."""
+    return [sum(number for key, number in plan.items() if key[0] == name) for name, _, _ in demands]
+
+
+def random_deed(rng, ranks):
+    """A rank deed that can often be done to a list."""
+    names = ranks.names()
+
+    def pick():
+        return rng.choice(names)
+
+    new = Claim("new", rng.choice([None, "ann", "bob", "fay"]), rng.randint(1, 2), rng.choice([("p",), ("p", "q")]))
+    return rng.choice([
+        ("enter", new, rng.randint(1, len(names) + 1)),
+        ("cancel", pick()), ("repay", pick(), rng.randint(1, 2)), ("assign", pick(), rng.choice(["ann", "bob", "fay"])),
+        ("fill", pick(), rng.choice(["ann", "bob", "fay"])), ("part", pick(), 1, "new"), ("merge", pick()),
+        ("release", pick(), rng.choice("pqr")), ("extend", pick(), rng.choice("pqr")), ("yield", pick(), pick()),
+        ("trade", pick(), pick()),
+    ])
+
+
+def random_changes(seed, many):
+    """Triples of a rank list, a rank deed that can be done to it, and the list behind it."""
+    for at in range(many):
+        rng = random.Random(f"{seed} {at}")
+        rows = [Claim(name, rng.choice([None, "ann", "ann", "bob", "cyd"]), rng.randint(1, 2),
+                      tuple(sorted(rng.sample("pqr", rng.randint(1, 2))))) for name in ("x", "y", "z", "w")]
+        ranks = RankList(*rows)
+        deed = random_deed(rng, ranks)
+        try:
+            yield ranks, deed, changed(ranks, deed)
+        except (Behind, InsideLot, InvalidAmount, NotReserved, OutsideLot, Reserved, Unequal, Unlike):
+            pass
 
 
 class Case(unittest.TestCase):

@@ -12,7 +12,8 @@ from deedranks.ranks import RankList
 from deedranks.totals import pays
 from support import Case, random_cases
 
-FIRST = RankList(Claim("one", "ann", 1, ("a", "b", "c")), Claim("held", None, 9, ("e",)), Claim("two", "bob", 2, ("c", "d")))
+FIRST = RankList(Claim("one", "ann", 1, ("a", "b", "c")), Claim("held", None, 9, ("e",)),
+                 Claim("two", "bob", 2, ("c", "d")))
 SECOND = RankList(Claim("two", "ann", 4, ("c", "d")))
 
 
@@ -122,7 +123,8 @@ class Rows(Case):
         self.assertEqual(row_count(more, RankList()), 730)
         seven = six + Claim("g", "ann", 1, ("g",))
         for first, second in ((more, more), (more, RankList()), (RankList(), more), (seven, six), (one, seven)):
-            for call in (parting, are_alike, lambda *told: list(price_rows(*told)), lambda *told: next(price_rows(*told))):
+            for call in (parting, are_alike, lambda *told: list(price_rows(*told)),
+                         lambda *told: next(price_rows(*told))):
                 self.fails(TooMany, lambda: call(first, second), 729)
 
     def test_it_is_a_generator(self):
@@ -142,7 +144,8 @@ class Alike(Case):
         second = RankList(Claim("two", "bob", 1, ("b",)), Claim("three", "ann", 2, ("a",)))
         self.assertIs(are_alike(first, second), True)
         self.assertIsNone(parting(first, second))
-        parted = RankList(Claim("one", "ann", 1, ("a",)), Claim("four", "ann", 1, ("a",)), Claim("two", "bob", 1, ("b",)))
+        parted = RankList(Claim("one", "ann", 1, ("a",)), Claim("four", "ann", 1, ("a",)),
+                          Claim("two", "bob", 1, ("b",)))
         self.assertIs(are_alike(second=parted, first=first), True)
 
     def test_lists_that_are_not_alike(self):

@@ -63,7 +63,8 @@ class Boxes(Case):
                 except TypeError:
                     continue
                 self.fails(InvalidBounds, lambda: Box(bounds), value)
-        for pair in ([0, 1], (1, 0), (0, 1, 2), (0,), (-1, 1), (0, True), (False, 1), ("0", 1), (None, None), ((0, 1),)):
+        for pair in ([0, 1], (1, 0), (0, 1, 2), (0,), (-1, 1), (0, True), (False, 1), ("0", 1), (None, None),
+                     ((0, 1),)):
             self.fails(InvalidBounds, lambda: Box({"a": pair}), "a")
         self.fails(InvalidBounds, lambda: Box({"b": (2, 1), "a": (2, 1)}), "b")
         self.fails(InvalidBounds, lambda: Box({None: (0, 1)}), None)
@@ -165,7 +166,8 @@ class Ranges(Case):
 
     def test_errors_in_their_order(self):
         box = Box({"b": (0, 2), "a": (1, 4)})
-        calls = (lambda name, wanted: pay_range(RANKS, box, name), lambda name, wanted: outlook(RANKS, box, name, wanted),
+        calls = (lambda name, wanted: pay_range(RANKS, box, name),
+                 lambda name, wanted: outlook(RANKS, box, name, wanted),
                  lambda name, wanted: brings(RANKS, box, name, wanted))
         for value in any_values() + ["ann", "a", "four"]:
             for call in calls:

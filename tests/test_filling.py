@@ -6,8 +6,7 @@ from deedranks.claims import Claim
 from deedranks.errors import Came, Reserved, UnknownClaim
 from deedranks.filling import Filling
 from deedranks.ranks import RankList
-from support import Case, any_values, plain_totals, random_cases
-from test_totals import row_of
+from support import Case, any_values, plain_totals, random_cases, row_of
 
 RANKS = RankList(Claim("one", "ann", 3, ("a", "b")), Claim("held", None, 9, ("a", "b")), Claim("two", "bob", 2, ("b",)),
                  Claim("three", "ann", 4, ("a",)))

@@ -7,8 +7,7 @@ from deedranks.claims import Claim
 from deedranks.errors import Reserved, UnknownClaim
 from deedranks.foul import drawn_most, foul_pay, foul_plan, is_safe
 from deedranks.ranks import RankList
-from support import Case, any_values, plain_sum, plain_totals, random_cases
-from test_totals import all_plans, row_of
+from support import Case, all_plans, any_values, plain_sum, plain_totals, random_cases, row_of
 
 CALLS = (drawn_most, foul_pay, foul_plan, is_safe)
 RANKS = RankList(Claim("one", "ann", 1, ("a", "b")), Claim("held", None, 2, ("a",)), Claim("two", "bob", 1, ("a",)))

@@ -11,8 +11,7 @@ from deedranks.rankdeeds import changed
 from deedranks.ranks import RankList
 from deedranks.signs import signs
 from deedranks.totals import pays
-from support import Case, any_values
-from test_signs import random_changes
+from support import Case, any_values, random_changes
 
 RANKS = RankList(Claim("one", "ann", 1, ("a", "b")), Claim("two", "bob", 1, ("a",)), Claim("held", None, 1, ("a",)))
 GREAT = RankList(Claim("one", "ann", 10 ** 12, ("a",)), Claim("two", "bob", 10 ** 12, ("a",)),
@@ -30,7 +29,7 @@ class Hurts(Case):
     def test_some(self):
         # One draws from a alone behind the first deed, and two has it alone behind the second one.
         worse, better = changed(RANKS, ("release", "one", "b")), changed(RANKS, ("release", "one", "a"))
-        self.same([hurt_prices(RANKS, worse, "ann"), hurt_prices(RANKS, worse, "bob"), hurt_prices(RANKS, worse, "cyd")],
+        self.same([hurt_prices(RANKS, worse, person) for person in ("ann", "bob", "cyd")],
                   [{"a": 0, "b": 1}, {"a": 1, "b": 1}, None])
         self.same([hurt_persons(RANKS, worse), hurt_persons(worse, RANKS)], [["ann", "bob"], []])
         self.same([hurt_prices(RANKS, better, "ann"), hurt_prices(RANKS, better, "bob")], [{"a": 1, "b": 0}, None])

@@ -68,7 +68,8 @@ class Layers(Case):
         for rng, ranks, prices in random_cases("itself", 60):
             for price in (0, 1, 5, 10 ** 12):
                 others = {**prices, "a": price}
-                without = {parcel: prices[parcel] for parcel in rng.sample(sorted(prices), len(prices)) if parcel != "a"}
+                names = rng.sample(sorted(prices), len(prices))
+                without = {name: prices[name] for name in names if name != "a"}
                 self.same(list(layers(ranks, others, "a")), list(layers(ranks, without, "a")))
                 for claim in ranks:
                     if not claim.reserved:

@@ -6,8 +6,7 @@ from deedranks.claims import Claim
 from deedranks.leaving import left, left_plan
 from deedranks.ranks import RankList
 from deedranks.totals import is_right
-from support import Case, any_values, plain_sum, random_cases
-from test_totals import all_plans, row_of
+from support import Case, all_plans, any_values, plain_sum, random_cases, row_of
 
 RANKS = RankList(Claim("one", "ann", 3, ("a", "b")), Claim("held", None, 9, ("a", "b")), Claim("two", "bob", 2, ("b",)))
 PRICES = {"z": 5, "b": 4, "a": 4}

@@ -80,7 +80,8 @@ class Sums(Case):
         self.same([taken_from(PLAN, name) for name in ("a", "b", "c", "z", "one")], [4, 6, 2, 0, 0])
         self.same(taken_from(parcel="a", plan={}), 0)
         self.same(rests(PRICES, PLAN), {"a": 0, "b": 0, "c": 0, "z": 1})
-        self.same(rests(prices={"z": 3, "b": 7, "a": 10 ** 13}, plan={("one", "b"): 2}), {"a": 10 ** 13, "b": 5, "z": 3})
+        self.same(rests(prices={"z": 3, "b": 7, "a": 10 ** 13}, plan={("one", "b"): 2}),
+                  {"a": 10 ** 13, "b": 5, "z": 3})
         self.same([rests({}, {}), rests({"a": 0}, {})], [{}, {"a": 0}])
 
     def test_against_each_other(self):

@@ -1,7 +1,6 @@
 """Words and signs: [34]."""
 
 import itertools
-import random
 import unittest
 
 from deedranks.claims import Claim
@@ -11,7 +10,7 @@ from deedranks.rankdeeds import changed
 from deedranks.ranks import RankList
 from deedranks.signs import signs
 from deedranks.totals import pays
-from support import Case, any_values
+from support import Case, any_values, random_changes
 
 # The owners are ann, bob, nobody, cyd, ann and dan.
 RANKS = RankList(Claim("one", "ann", 2, ("a", "b")), Claim("two", "bob", 2, ("b",)), Claim("held", None, 2, ("a",)),
@@ -25,33 +24,6 @@ def told(same="", more="", less="", open=""):
     rows = [(names[letter], sign) for sign, letters in (("same", same), ("more", more), ("less", less), ("open", open))
             for letter in letters]
     return dict(sorted(rows))
-
-
-def random_deed(rng, ranks):
-    names = ranks.names()
-    pick = lambda: rng.choice(names)
-    return rng.choice([
-        ("enter", Claim("new", rng.choice([None, "ann", "bob", "fay"]), rng.randint(1, 2), rng.choice([("p",), ("p", "q")])),
-         rng.randint(1, len(names) + 1)),
-        ("cancel", pick()), ("repay", pick(), rng.randint(1, 2)), ("assign", pick(), rng.choice(["ann", "bob", "fay"])),
-        ("fill", pick(), rng.choice(["ann", "bob", "fay"])), ("part", pick(), 1, "new"), ("merge", pick()),
-        ("release", pick(), rng.choice("pqr")), ("extend", pick(), rng.choice("pqr")), ("yield", pick(), pick()),
-        ("trade", pick(), pick()),
-    ])
-
-
-def random_changes(seed, many):
-    """Triples of a rank list, a rank deed that can be done to it, and the list behind it."""
-    for at in range(many):
-        rng = random.Random(f"{seed} {at}")
-        rows = [Claim(name, rng.choice([None, "ann", "ann", "bob", "cyd"]), rng.randint(1, 2),
-                      tuple(sorted(rng.sample("pqr", rng.randint(1, 2))))) for name in ("x", "y", "z", "w")]
-        ranks = RankList(*rows)
-        deed = random_deed(rng, ranks)
-        try:
-            yield ranks, deed, changed(ranks, deed)
-        except (Behind, InsideLot, InvalidAmount, NotReserved, OutsideLot, Reserved, Unequal, Unlike):
-            pass
 
 
 class Words(Case):
@@ -164,8 +136,8 @@ class Wrong(Case):
         for value in any_values():
             self.fails(InvalidDeed, lambda: signs(RANKS, value), 0)
             self.fails(InvalidDeed, lambda: signs(RANKS, (value, "one")), 0)
-        for deed in (["cancel", "one"], ("cancel",), ("cancel", "one", 1), ("Cancel", "one"), ("sale", "one", 1), "cancel",
-                     ("enter", 5), ("merge", "one", "two"), ("same", "one"), ("yield", "one")):
+        for deed in (["cancel", "one"], ("cancel",), ("cancel", "one", 1), ("Cancel", "one"), ("sale", "one", 1),
+                     "cancel", ("enter", 5), ("merge", "one", "two"), ("same", "one"), ("yield", "one")):
             self.fails(InvalidDeed, lambda: signs(RANKS, deed), 0)
 
     def test_divide_and_unite(self):
@@ -188,7 +160,8 @@ class Wrong(Case):
                 (Unlike, ("merge", "one"), ["one"]), (OutsideLot, ("release", "one", "c"), ["c"]),
                 (InsideLot, ("extend", "one", "a"), ["a"]), (InvalidName, ("extend", "one", None), [None]),
                 (Behind, ("yield", "two", "one"), ["two", "one"]), (Reserved, ("yield", "held", "six"), ["held"]),
-                (Unequal, ("yield", "one", "five"), ["one", "five"]), (Behind, ("trade", "one", "one"), ["one", "one"])):
+                (Unequal, ("yield", "one", "five"), ["one", "five"]),
+                (Behind, ("trade", "one", "one"), ["one", "one"])):
             self.fails(error, lambda: signs(RANKS, deed), *rest)
         self.fails(TooMany, lambda: signs(full, ("enter", new, 1)), 24)
 

@@ -1,33 +1,16 @@
 """Totals, right plans and pays, [25], and what changes by one coin more, [30]."""
 
-import itertools
 import random
 import unittest
 
 from deedranks.claims import Claim
 from deedranks.ranks import RankList
 from deedranks.totals import is_right, pays, right_plan, sums, totals
-from support import Case, any_values, plain_sum, plain_totals, random_cases
+from support import Case, all_plans, any_values, plain_sum, plain_totals, random_cases, row_of
 
 RANKS = RankList(Claim("one", "eve", 3, ("a", "b")), Claim("held", None, 9, ("a", "b")), Claim("two", "bob", 4, ("b",)),
                  Claim("a", "eve", 5, ("a", "c")), Claim("five", "ann", 2, ("d",)))
 PRICES = {"c": 1, "b": 5, "a": 2, "z": 7}
-
-
-def all_plans(demands, prices):
-    """All plans of few demands with small numbers."""
-    pairs = [(name, parcel) for name, _, lot in demands for parcel in lot]
-    ranges = [range(prices.get(parcel, 0) + 1) for _, parcel in pairs]
-    for numbers in itertools.product(*ranges):
-        plan = {pair: number for pair, number in zip(pairs, numbers) if number > 0}
-        over = any(sum(plan.get((name, parcel), 0) for parcel in lot) > amount for name, amount, lot in demands)
-        if not over and all(sum(n for key, n in plan.items() if key[1] == parcel) <= price
-                            for parcel, price in prices.items()):
-            yield plan
-
-
-def row_of(demands, plan):
-    return [sum(number for key, number in plan.items() if key[0] == name) for name, _, _ in demands]
 
 
 class Totals(Case):
