@@ -39,7 +39,7 @@ class Titles:
                 raise InvalidName(person)
         if giver == taker:
             raise SamePerson(giver)
-        if not _is_given_share(share):
+        if not is_given_share(share):
             raise InvalidShare(share)
         for parcel in lot:
             if length_of(self._lines[parcel], giver).less(share):
@@ -246,7 +246,8 @@ def _is_heir(value):
     return is_name(value[0]) and is_number(value[1], 1, 9)
 
 
-def _is_given_share(value):
+def is_given_share(value):
+    """Whether any value is a share above 0 and at most 1."""
     if not isinstance(value, Share):
         return False
     return Share(0).less(value) and not Share(1).less(value)

@@ -1,4 +1,4 @@
-"""What the tests share: values of any kind, plain models of plans and cuts, and a check of errors with attributes."""
+"""What the tests share: values of any kind, plain models of plans, cuts and sales, deeds, a check of errors."""
 
 import itertools
 import random
@@ -6,10 +6,12 @@ import unittest
 
 from deedranks.claims import Claim
 from deedranks.errors import Behind, InsideLot, InvalidAmount, InvalidDemand, InvalidName, InvalidPrices, NotReserved
+from deedranks.entries import Entry
 from deedranks.errors import OutsideLot, Reserved, TooMany, Unequal, Unlike
 from deedranks.plats import Plat
 from deedranks.rankdeeds import changed
 from deedranks.ranks import RankList
+from deedranks.sales import FairSale
 from deedranks.shares import Share
 from deedranks.titles import Titles
 from deedranks.ways import Ways
@@ -25,7 +27,43 @@ def any_values():
         [[]], [{}], ({},), ([], []), (None, None), [None], ((((("a",),),),),), [[[[["a"]]]]], {1: {2: {3: {4: [5]}}}},
         Share(1, 2), Share(0), plat, Ways(plat, []), Titles({"a": "ann"}), Claim("one", "ann", 1, ("a",)), RankList(),
         RankList(Claim("a", None, 1, ("a",))), InvalidName("a"), (Share(1), Share(1)), (plat, plat), [Share(1, 2)],
+        FairSale(RankList()), Entry(2, 1, 1, ("merge", "a")), [Entry(2, 1, 1, ("merge", "a"))],
     ]
+
+
+def good_deeds():
+    """Deeds of each word, the first one of each word as plain as can be."""
+    return [
+        ("sale", ("a", "b"), "ann", "bob", Share(1, 2), False), ("sale", ("a",), "ann", "a", Share(1), True),
+        ("gift", ("a",), "ann", "bob", Share(1, 3)), ("gift", tuple("abcdefghijkl"), "bob", "ann", Share(59, 60)),
+        ("heirs", "ann", (("bob", 1),)), ("heirs", "ann", (("eve", 9), ("dan", 1), ("cyd", 9), ("bob", 4))),
+        ("void", 1), ("void", 998), ("uphold", 2), ("divide", "a", ((0, 0),), "c"),
+        ("divide", "a", ((11, 11), (0, 3), (2, 10)), "abcdef"), ("unite", "a", "b"),
+        ("grant", "a", "b", ("ann", "bob"), False), ("grant", "b", "a", ("ann",), True), ("waive", "a", "b"),
+        ("charge", "one", "cyd", 100, ("a", "b"), ("ann",), False),
+        ("charge", "a", "a", 10 ** 12 - 1, ("a",), ("a",), True),
+        ("reserve", "two", 1, ("a",), 9999, ("ann", "bob"), False), ("reserve", "two", 7, ("a", "b"), 0, ("ann",), True),
+        ("fill", "one", "ann"), ("repay", "one", 10 ** 12 - 1), ("repay", "one", 1), ("assign", "one", "one"),
+        ("part", "one", 5, "two"), ("part", "one", 10 ** 12 - 1, "two"), ("merge", "one"), ("release", "one", "one"),
+        ("extend", "one", "a", ("ann", "bob"), False), ("extend", "one", "b", ("ann",), True),
+        ("yield", "one", "two"), ("trade", "one", "two"), ("strike", 3), ("instead", 4, ("gift", ("a",), "ann", "bob",
+                                                                                        Share(1))),
+        ("instead", 999, ("void", 998)), ("instead", 3, ("uphold", 2)), ("instead", 7, ("merge", "one")),
+    ]
+
+
+def plain_sale(demands, prices, order):
+    """What each demand takes from each parcel if the parcels are sold in this order, by pairs."""
+    taken = {}
+    for parcel in order:
+        rest = prices.get(parcel, 0)
+        for name, amount, lot in demands:
+            if parcel in lot:
+                many = min(rest, amount - sum(number for key, number in taken.items() if key[0] == name))
+                rest -= many
+                if many:
+                    taken[(name, parcel)] = many
+    return taken
 
 
 def wrong_prices():

@@ -10,6 +10,7 @@ from deedranks.layers import layers, least_price
 from deedranks.plats import Plat
 from deedranks.rankdeeds import changed
 from deedranks.ranks import RankList
+from deedranks.sales import FairSale, Sale
 from deedranks.shares import Share
 from deedranks.titles import Titles
 from deedranks.totals import totals
@@ -51,6 +52,14 @@ class Examples(Case):
                          Claim("three", "cyd", 4, ("a", "b")))
         self.same([list(layers(ranks, {"b": 2}, "a")), least_price(ranks, {"b": 2}, "a", "three", 1)],
                   [[("one", 0, 1), ("two", 1, 3), ("three", 3, 7)], 4])
+
+    def test_a_sale_and_a_fair_sale(self):
+        ranks = RankList(Claim("one", "ann", 1, ("a", "b")), Claim("two", "bob", 1, ("a",)))
+        plain = Sale(ranks)
+        fair = FairSale(ranks)
+        self.same([plain.sell("a", 1), plain.sell("b", 1), plain.ended, fair.sell("a", 1), fair.sell("b", 1),
+                   fair.totals()],
+                  [[("one", 1)], [], True, [("one", 1)], [("two", 1)], [("one", 1), ("two", 1)]])
 
     def test_a_claim_of_nothing(self):
         self.fails(InvalidAmount, lambda: Claim("one", "ann", 0, ("a",)), 0)
