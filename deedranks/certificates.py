@@ -20,7 +20,7 @@ def certificate_text(ranks, prices):
     lines = [claim_line(claim) for claim in ranks.claims()]
     for parcel in sorted({parcel for _, _, lot in demands for parcel in lot}):
         lines.append(f"price {parcel} {number_text(prices.get(parcel, 0))}")
-    for name, parcel in sorted(plan):
+    for name, parcel in plan:
         lines.append(f"pay {name} {parcel} {number_text(plan[(name, parcel)])}")
     for (name, _, _), cut in zip(demands, cuts):
         lines.append(" ".join(["cut", name, *cut]))

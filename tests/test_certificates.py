@@ -182,6 +182,13 @@ class Reading(Case):
         self.wrong(many + ["reserved a 0 p"], 24, "form")
         self.wrong(many[:23] + ["claim a ann 5 p", "claim y ann 5 p"], 23, "double")
 
+    def test_many_lines_of_the_other_kinds(self):
+        names = [first + second for first in "abcdef" for second in "abcdef"]
+        lines = [f"price {name} 1" for name in names] + [f"pay x {name} 1" for name in names]
+        found = read_certificate(text_of(["claim x y 50 aa"] + lines + ["cut x"]))
+        self.same([len(found[1]), len(found[2])], [36, 36])
+        self.wrong(["claim x y 50 aa"] + lines + [lines[-1]], 73, "double")
+
     def test_double(self):
         self.wrong(CLAIMS + ["claim one bob 1 z"], 4, "double")
         self.wrong(CLAIMS + ["reserved two 1 z"] + CUT, 4, "double")

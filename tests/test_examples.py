@@ -1,12 +1,14 @@
-"""The examples of the document, as far as the modules are there."""
+"""The examples of the document."""
 
 import unittest
 
 from deedranks.claims import Claim
+from deedranks.entries import Entry
 from deedranks.errors import InvalidAmount
 from deedranks.foul import foul_pay
 from deedranks.granting import fewest_steps
 from deedranks.layers import layers, least_price
+from deedranks.office import Office
 from deedranks.plats import Plat
 from deedranks.rankdeeds import changed
 from deedranks.ranks import RankList
@@ -60,6 +62,13 @@ class Examples(Case):
         self.same([plain.sell("a", 1), plain.sell("b", 1), plain.ended, fair.sell("a", 1), fair.sell("b", 1),
                    fair.totals()],
                   [[("one", 1)], [], True, [("one", 1)], [("two", 1)], [("one", 1), ("two", 1)]])
+
+    def test_entries_that_arrive_in_another_order(self):
+        office = Office(Plat([["a", "a", "b"]], road=[(0, 0)]), {"a": "ann", "b": "bob"})
+        office.put(Entry(2, 5, 6, ("charge", "one", "cyd", 100, ("a",), ("ann",), False)))
+        office.put(Entry(1, 3, 4, ("gift", ("a",), "ann", "dan", Share(1, 3))))
+        self.same([office.idle(day=9, known=9), office.idle(day=9, known=5),
+                   str(office.roll(day=4, known=9).titles().share_of("a", "dan"))], [{2: "NotOwner"}, {}, "1/3"])
 
     def test_a_claim_of_nothing(self):
         self.fails(InvalidAmount, lambda: Claim("one", "ann", 0, ("a",)), 0)

@@ -38,6 +38,9 @@ CLASSES = {
     "boxes": {"Box": ["bounds"]},
     "sales": {"Sale": ["ranks"], "FairSale": None},
     "entries": {"Entry": ["number", "done", "entered", "deed"]},
+    "rolls": {"Roll": ["plat", "owners"]},
+    "office": {"Office": ["plat", "owners"]},
+    "desk": {"Desk": ["plat", "owners"]},
 }
 LISTED = {
     "words": "is_name(value) is_lot(value) is_amount(value) is_price(value) is_day(value) is_number(value,least,most)",
@@ -76,6 +79,10 @@ LISTED = {
     "deeds": "is_deed(value) is_correction(value)",
     "deedtexts": "deed_text(deed) read_deed(text)",
     "entries": "entry_text(entry) read_entry(text)",
+    "journals": "journal_text(office) read_journal(plat,owners,text)",
+    "extracts": "roll_text(roll) extract(roll,parcel)",
+    "owning": "sole_parcels(roll,person) sole_left(roll,prices,person)",
+    "consents": "hurt_by(office,entry)",
     "Share": "less(self,other) read(text) __add__(self,other) __sub__(self,other) __mul__(self,other) "
              "__rmul__(self,other) __eq__(self,other) __str__(self) __repr__(self)",
     "Plat": "rows(self) road(self) names(self) parcel_at(self,cell) cells(self,name) area(self,name) rim(self,name) "
@@ -103,8 +110,17 @@ LISTED = {
             "__repr__(self)",
     "FairSale": "sell(self,parcel,price) plan(self) twin(self) __repr__(self)",
     "Entry": "__eq__(self,other) __str__(self) __repr__(self)",
+    "Roll": "present_day(self) turn_to(self,day) do(self,number,deed,*,day=None) titles(self) grants(self) on_paper(self) "
+            "places(self) came_by(self,name,parcel) last_day(self,name) ranks(self) ways(self) twin(self) __repr__(self)",
+    "Office": "turn_to(self,day) put(self,entry) entries(self) entry(self,number) readings(self,*,known=None) "
+              "roll(self,*,day=None,known=None) idle(self,*,day=None,known=None) walk(self,*,day=None,known=None) "
+              "tried(self,*entries,day=None,known=None) busy(self) twin(self) __contains__(self,x) __len__(self) "
+              "__repr__(self)",
+    "Desk": "do(self,*actions) undo(self) redo(self) history(self) office(self) asked_prices(self) busy(self) "
+            "tried(self,*actions) say(self,line) __call__(self,line) log(self) twin(self) __eq__(self,other) "
+            "__len__(self) __repr__(self)",
 }
-GENERATORS = ["layers.layers", "alike.price_rows", "listing.statement"]
+GENERATORS = ["layers.layers", "alike.price_rows", "listing.statement", "office.walk"]
 
 
 def read(module):
@@ -180,7 +196,13 @@ class Interface(unittest.TestCase):
         self.assertIsInstance(vars(claims.Claim)["held"], classmethod)
         self.assertIsInstance(vars(shares.Share)["read"], staticmethod)
         self.assertIsInstance(vars(plats.Plat)["single"], staticmethod)
-        self.assertIsInstance(vars(import_module("deedranks.filling").Filling)["complete"], property)
+        self.assertEqual(import_module("deedranks.office").Office.MOST, 40)
+        for module, kind, name in (("filling", "Filling", "complete"), ("sales", "Sale", "ended"),
+                                   ("rolls", "Roll", "present_day"), ("office", "Office", "today"),
+                                   ("office", "Office", "busy"), ("desk", "Desk", "busy")):
+            found = vars(vars(import_module("deedranks." + module))[kind])[name]
+            self.assertIsInstance(found, property)
+            self.assertEqual(found.fset is not None, name == "today")
 
     def test_generators(self):
         found = []
@@ -194,7 +216,9 @@ class Interface(unittest.TestCase):
         self.assertEqual([name for name in names if every.count(name) != 1], [])
         for name in GENERATORS:
             module, word = name.split(".")
-            self.assertTrue(inspect.isgeneratorfunction(vars(import_module("deedranks." + module))[word]))
+            told = vars(import_module("deedranks." + module))
+            found = told[word] if word in told else vars(told[module.capitalize()])[word]
+            self.assertTrue(inspect.isgeneratorfunction(found))
 
 
 class Form(unittest.TestCase):
@@ -283,7 +307,7 @@ class Form(unittest.TestCase):
         for tree in trees().values():
             for node in ast.walk(tree):
                 for one in getattr(node, "decorator_list", []):
-                    self.assertIn(ast.unparse(one), ("property", "staticmethod", "classmethod"))
+                    self.assertIn(ast.unparse(one), ("property", "staticmethod", "classmethod", "today.setter"))
 
     def test_names(self):
         for module, tree in trees().items():

@@ -7,126 +7,9 @@ from fractions import Fraction
 from deedranks import errors
 from deedranks.shares import Share
 from deedranks.titles import Titles
+from plain import Plain, exact
 
 PEOPLE = ("ann", "bob", "cyd", "dan")
-
-
-class Plain:
-    """Each line is a list of [start, end, chain]; who owns a point is judged each time anew, as [14] says."""
-
-    def __init__(self, owners):
-        self.first = dict(owners)
-        self.lines = {parcel: [[Fraction(0), Fraction(1), []]] for parcel in owners}
-        self.goods, self.voids, self.used = {}, {}, set()
-
-    def judge(self, parcel, chain):
-        owner, told = self.first[parcel], []
-        for at, (number, givers, taker) in enumerate(chain):
-            warned = any(other in self.voids and self.voids[other] < number for other, _, _ in chain[:at])
-            if number in self.voids:
-                counted = False
-            elif owner in givers:
-                counted = True
-            else:
-                counted = self.goods[number] and not warned
-            if counted and taker:
-                owner = taker
-            told.append(counted)
-        return owner, told
-
-    def owner(self, parcel, chain):
-        return self.judge(parcel, chain)[0]
-
-    def share(self, parcel, person):
-        return sum([end - start for start, end, chain in self.lines[parcel] if self.owner(parcel, chain) == person],
-                   Fraction(0))
-
-    def persons(self, parcel):
-        return sorted({self.owner(parcel, chain) for _, _, chain in self.lines[parcel]})
-
-    def cut(self, parcel, person, length):
-        """Cuts the line where the points of the person ahead make up the length."""
-        for at, (start, end, chain) in enumerate(self.lines[parcel]):
-            if self.owner(parcel, chain) == person:
-                if 0 < length < end - start:
-                    self.lines[parcel][at:at + 1] = [[start, start + length, list(chain)],
-                                                     [start + length, end, list(chain)]]
-                    return
-                length -= end - start
-
-    def deal(self, parcel, number, person, parts):
-        """parts are pairs (length, taker), in the order of the points."""
-        bounds = [sum([length for length, _ in parts[:at]], Fraction(0)) for at in range(len(parts) + 1)]
-        for bound in bounds:
-            self.cut(parcel, person, bound)
-        ahead = Fraction(0)
-        for part in self.lines[parcel]:
-            if self.owner(parcel, part[2]) == person:
-                takers = [taker for at, (_, taker) in enumerate(parts) if bounds[at] <= ahead < bounds[at + 1]]
-                ahead += part[1] - part[0]
-                for taker in takers:
-                    part[2] = part[2] + [(number, (person,), taker)]
-
-    def use(self, number, good=None):
-        self.used.add(number)
-        if good is not None:
-            self.goods[number] = good
-
-    def give(self, number, lot, giver, taker, share, good):
-        for parcel in lot:
-            if self.share(parcel, giver) < share:
-                return ("Lacking", parcel)
-        self.use(number, good)
-        for parcel in lot:
-            self.deal(parcel, number, giver, [(share, taker)])
-        return None
-
-    def inherit(self, number, person, heirs):
-        if not any(self.share(parcel, person) for parcel in self.lines):
-            return ("UnknownPerson", person)
-        self.use(number, False)
-        for parcel in self.lines:
-            whole = self.share(parcel, person)
-            if whole:
-                weights = sum(weight for _, weight in heirs)
-                self.deal(parcel, number, person, [(whole * weight / weights, heir) for heir, weight in heirs])
-        return None
-
-    def burden(self, number, lot, by, good):
-        for parcel in lot:
-            if not set(self.persons(parcel)) <= set(by):
-                return ("NotOwner", parcel)
-        self.use(number, good)
-        for parcel in lot:
-            for part in self.lines[parcel]:
-                part[2] = part[2] + [(number, by, "")]
-        return None
-
-    def void(self, number, target):
-        if target not in self.goods:
-            return ("UnknownDeed", target)
-        if target in self.voids:
-            return ("AlreadyVoid", target)
-        self.use(number)
-        self.voids[target] = number
-        return None
-
-    def uphold(self, number, target):
-        if target not in self.goods:
-            return ("UnknownDeed", target)
-        if target not in self.voids:
-            return ("NotVoid", target)
-        self.use(number)
-        del self.voids[target]
-        return None
-
-    def alike(self, first, second):
-        points = sorted({point for parcel in (first, second) for part in self.lines[parcel] for point in part[:2]})
-        return self.first[first] == self.first[second] and all(
-            self.chain(first, point) == self.chain(second, point) for point in points[:-1])
-
-    def chain(self, parcel, at):
-        return [chain for start, end, chain in self.lines[parcel] if start <= at < end][0]
 
 
 def told(titles):
@@ -153,10 +36,6 @@ def plainly_told(plain):
                 stretches.append((start, end, owner))
         rows.append(stretches)
     return rows
-
-
-def exact(share):
-    return Fraction(share.top, share.bottom)
 
 
 class Against(unittest.TestCase):
