@@ -40,9 +40,9 @@ def read_certificate(text):
         rows.append(row)
     if _next_demand(rows) is not None:
         raise InvalidText(len(rows), "missing")
-    ranks = RankList(*[claim for _, _, claim in _of_kind(rows, _CLAIM)])
+    claims = [claim for _, _, claim in _of_kind(rows, _CLAIM)]
     cuts = [names for _, _, names in _of_kind(rows, _CUT)]
-    return ranks, _numbers(_of_kind(rows, _PRICE)), _numbers(_of_kind(rows, _PAY)), cuts
+    return RankList(*claims), _numbers(_of_kind(rows, _PRICE)), _numbers(_of_kind(rows, _PAY)), cuts
 
 
 def judged_text(text):

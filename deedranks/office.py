@@ -154,7 +154,7 @@ def are_same(first, second):
 def _struck(entries):
     """The list of the numbers that strikes in force name. Each one names a lower number, so the highest comes first."""
     struck = []
-    for entry in reversed(entries):
+    for entry in reversed(list(entries)):
         if entry.deed[0] == "strike" and entry.number not in struck:
             struck.append(entry.deed[1])
     return struck

@@ -166,6 +166,74 @@ def parameters(node):
     return plain
 
 
+def properties(every):
+    """The names of all properties of some files."""
+    return [node.name for tree in every for node in functions(tree)
+            if any(ast.unparse(one) == "property" for one in node.decorator_list)]
+
+
+def is_literal(node):
+    """Whether an expression is a literal that is no list, tuple or dict; a number may have a minus sign."""
+    if isinstance(node, ast.UnaryOp) and isinstance(node.op, ast.USub):
+        node = node.operand
+    return isinstance(node, ast.Constant)
+
+
+def is_attribute(node, barred):
+    """Whether an expression is an attribute off a name, and none of the barred ones."""
+    return isinstance(node, ast.Attribute) and isinstance(node.value, ast.Name) and node.attr not in barred
+
+
+def may_stand_by_a_star(node, barred):
+    """Whether an expression is a name, an attribute off a name, a literal, or a list, a tuple or a dict of these."""
+    if isinstance(node, (ast.List, ast.Tuple)):
+        return all(may_stand_by_a_star(part, barred) for part in node.elts)
+    if isinstance(node, ast.Dict):
+        return all(may_stand_by_a_star(part, barred) for part in [*node.keys, *node.values])
+    return isinstance(node, ast.Name) or is_attribute(node, barred) or is_literal(node)
+
+
+def is_starred_right(call, barred):
+    """Whether behind each star of a call, and beside `**`, there is only what L7 lists."""
+    doubles = [word.value for word in call.keywords if word.arg is None]
+    if doubles:
+        if len(call.keywords) > 1 or not (isinstance(doubles[0], ast.Name) or is_attribute(doubles[0], barred)):
+            return False
+    starred = [at for at, part in enumerate(call.args) if isinstance(part, ast.Starred)]
+    if not starred and not doubles:
+        return True
+    words = [word.value for word in call.keywords]
+    last = call.args[starred[-1]] if starred else None
+    if any((word.lineno, word.col_offset) < (last.lineno, last.col_offset) for word in words if last is not None):
+        return False
+    # Both what has the star and all that comes after it stand behind it.
+    behind = call.args if doubles else call.args[starred[0]:]
+    parts = [part.value if isinstance(part, ast.Starred) else part for part in behind]
+    return all(may_stand_by_a_star(part, barred) for part in [*parts, *words])
+
+
+def wrong_stars(tree, barred):
+    """The rows of the calls with something behind a star, or beside `**`, that may not stand there (L7)."""
+    return [node.lineno for node in ast.walk(tree)
+            if isinstance(node, ast.Call) and not is_starred_right(node, barred)]
+
+
+def is_reversed_right(call):
+    """Whether `reversed` stands over `list(..)`, `tuple(..)`, `sorted(..)`, `range(..)` or a literal."""
+    if len(call.args) != 1:
+        return False
+    over = call.args[0]
+    if isinstance(over, ast.Call):
+        return isinstance(over.func, ast.Name) and over.func.id in ("list", "tuple", "sorted", "range")
+    return isinstance(over, (ast.List, ast.Tuple, ast.Dict)) or is_literal(over)
+
+
+def wrong_reversed(tree):
+    """The rows of the calls of `reversed` that L5 does not let stand, as RankList has `__getitem__`."""
+    return [node.lineno for node in ast.walk(tree) if isinstance(node, ast.Call)
+            and isinstance(node.func, ast.Name) and node.func.id == "reversed" and not is_reversed_right(node)]
+
+
 class Interface(unittest.TestCase):
     def check(self, body, listed):
         found = {node.name: node for node in body if isinstance(node, ast.FunctionDef)}
@@ -339,6 +407,40 @@ class Form(unittest.TestCase):
             for node in ast.walk(tree):
                 if isinstance(node, ast.Call) and isinstance(node.func, ast.Attribute):
                     self.assertIn(node.func.attr, METHODS | own, module)
+
+    def test_what_stands_behind_stars(self):
+        every = trees()
+        barred = properties(every.values())
+        for module, tree in every.items():
+            self.assertEqual(wrong_stars(tree, barred), [], module)
+
+    def test_wrong_stars_are_found(self):
+        for call in ("f(*xs)", "f(k, *xs)", "f(*xs, n, sep=n)", "f(**d)", "f(*self.rows)", "f(*xs, **self.more)",
+                     "f(len(xs), *ys)", "f(*[1, -2, (xs, 'a')], None)", "f(*{1: xs})", "f([x for x in xs], k=len(xs))",
+                     "Box(*xs, *ys)", "zip(*rows)", "max(*xs, key=len)", "super().__init__(*xs, **more)"):
+            self.assertEqual(wrong_stars(ast.parse(f"a = 1\n{call}\n"), ["many"]), [], call)
+        for call in ("RankList(*[claim for _, _, claim in _of_kind(rows, _CLAIM)])", "f(*rows())", "f(*xs[1:])",
+                     "f(*sorted(xs))", "f(*box.many)", "f(*self.box.rows)", "f(*(x for x in xs))", "f(*xs or ys)",
+                     "f(*xs + ys)", "f(*[[x] for x in xs], 1)", "f(*[xs, [len(xs)]])", "f(*[*xs, 1])", "f(*{1: {**d}})",
+                     "f(*xs, len(xs))", "f(*xs, *ys[:1])", "f(*xs, sep=xs[0])", "f(len(xs), **d)", "f(*ys[1:], **d)",
+                     "f(**dict(d))", "f(**{'a': 1})", "f(**box.many)", "f(a=1, **d)", "f(**d, **e)", "f(a=1, *xs)",
+                     "g(1, f(*xs[1:]))", "f(*f(*xs))", "super().__init__(*xs[1:])", "f(*f'{x}')", "f(*{x, y})"):
+            self.assertEqual(wrong_stars(ast.parse(f"a = 1\n{call}\n"), ["many"]), [2], call)
+        self.assertEqual(properties(ast.parse(text) for text in (
+            "class A:\n    @property\n    def many(self):\n        return 1\n",
+            "class B:\n    @staticmethod\n    def told():\n        return 1\n")), ["many"])
+        self.assertIn("reserved", properties(trees().values()))
+
+    def test_what_is_reversed(self):
+        for module, tree in trees().items():
+            self.assertEqual(wrong_reversed(tree), [], module)
+
+    def test_wrong_reversed_are_found(self):
+        for text in ("list(xs)", "tuple(self.rows)", "sorted(xs)", "range(3)", "[1, x]", "(1, 2)", "'ab'", "{1: 2}"):
+            self.assertEqual(wrong_reversed(ast.parse(f"a = 1\nfor x in reversed({text}):\n    pass\n")), [], text)
+        for text in ("entries", "self.rows", "self.rows[1]", "xs[1:]", "rows()", "box.rows()", "[x for x in xs]",
+                     "xs + ys", "xs or ys", "xs if a else ys", "self.list(xs)", "d.items()", "zip(xs, ys)", ""):
+            self.assertEqual(wrong_reversed(ast.parse(f"a = 1\nfor x in reversed({text}):\n    pass\n")), [2], text)
 
     def test_sets_are_used_on_the_spot(self):
         for module, tree in trees().items():
